@@ -4,6 +4,7 @@ import (
 	"slices"
 
 	"orlop/api"
+	"orlop/limits"
 )
 
 // changing is a ship that is changed. Its lists are its own, so that changes reach no plan.
@@ -60,7 +61,7 @@ func changesFault(p api.HuPlan) (at int, e api.Errno) {
 	by := deeds()
 	day := 0
 	for i, c := range p.Changes {
-		if !within(day, api.MaxDay, c.Day) {
+		if !limits.Within(day, api.MaxDay, c.Day) {
 			return i, api.ErrRange
 		}
 		day = c.Day

@@ -5,6 +5,7 @@ import (
 	"slices"
 
 	"orlop/api"
+	"orlop/limits"
 )
 
 // Name reports whether a string is a name: at most MaxName lower-case letters and digits, the first one a letter.
@@ -53,7 +54,7 @@ func ships(day int, plans ...api.HuPlan) ([]api.HuShip, api.Errno) {
 			return nil, e
 		}
 	}
-	if !within(0, api.MaxDay, day) {
+	if !limits.Within(0, api.MaxDay, day) {
 		return nil, api.ErrRange
 	}
 	l := make([]api.HuShip, 0, len(plans))
@@ -69,7 +70,7 @@ func Weigh(p api.HuPlan, day, first, last int) (api.Span, api.Errno) {
 	if e != api.OK {
 		return api.Span{}, e
 	}
-	if !within(0, api.MaxHuFrames, first, last) || first > last {
+	if !limits.Within(0, api.MaxHuFrames, first, last) || first > last {
 		return api.Span{}, api.ErrRange
 	}
 	var sum api.Span

@@ -4,17 +4,8 @@ import (
 	"slices"
 
 	"orlop/api"
+	"orlop/limits"
 )
-
-// within reports whether all numbers are from lo to hi.
-func within(lo, hi int, numbers ...int) bool {
-	for _, n := range numbers {
-		if n < lo || n > hi {
-			return false
-		}
-	}
-	return true
-}
 
 // find returns the first element of a list that is wanted, and its index; if there is none, a zero value and -1.
 func find[T any](list []T, wanted func(T) bool) (x T, at int) {
@@ -96,9 +87,9 @@ func partFault(x api.HuPart, before, others []api.HuPart) api.Errno {
 
 // numbersFit reports whether all numbers of a part are in their ranges.
 func numbersFit(x api.HuPart) bool {
-	return within(api.HuPlate, api.HuPipe, x.Kind) &&
-		within(0, api.MaxHuFrames, x.First, x.Last) &&
-		within(1, api.MaxHuWeight, x.Weight.Lo, x.Weight.Hi)
+	return limits.Within(api.HuPlate, api.HuPipe, x.Kind) &&
+		limits.Within(0, api.MaxHuFrames, x.First, x.Last) &&
+		limits.Within(1, api.MaxHuWeight, x.Weight.Lo, x.Weight.Hi)
 }
 
 // standingFault returns the error of the list On of a part that is behind the parts before it.

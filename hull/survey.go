@@ -5,6 +5,7 @@ import (
 	"slices"
 
 	"orlop/api"
+	"orlop/limits"
 )
 
 // Agree returns which plans agree with what a survey found.
@@ -50,7 +51,7 @@ func Ask(plans []api.HuPlan, day int, sights []api.HuSight) (name string, frame,
 
 // survey returns the plans that agree with sights, and their ships.
 func survey(plans []api.HuPlan, day int, sights []api.HuSight) ([]int, []api.HuShip, api.Errno) {
-	if !within(1, api.MaxHuVersions, len(plans)) {
+	if !limits.Within(1, api.MaxHuVersions, len(plans)) {
 		return nil, nil, api.ErrLong
 	}
 	l, e := ships(day, plans...)
@@ -92,7 +93,7 @@ func sightsFault(sights []api.HuSight) api.Errno {
 		if !Name(w.Name) {
 			return api.ErrForm
 		}
-		if !within(0, api.MaxHuFrames, w.Frame) || !within(0, api.HuPipe, w.Kind) {
+		if !limits.Within(0, api.MaxHuFrames, w.Frame) || !limits.Within(0, api.HuPipe, w.Kind) {
 			return api.ErrRange
 		}
 	}
@@ -102,7 +103,7 @@ func sightsFault(sights []api.HuSight) api.Errno {
 // finds returns what a look finds: the kind of the part of this name that has this frame, or 0.
 func finds(s api.HuShip, name string, frame int) int {
 	x, _ := find(s.Parts, func(x api.HuPart) bool {
-		return x.Name == name && within(x.First, x.Last, frame)
+		return x.Name == name && limits.Within(x.First, x.Last, frame)
 	})
 	return x.Kind
 }

@@ -1,6 +1,9 @@
 package tide
 
-import "orlop/api"
+import (
+	"orlop/api"
+	"orlop/limits"
+)
 
 // Check returns the part, the index in it and the error of a beach and a ship. The part is 1 for the beach without its tides, 2 for the tides, and 3 for the ship.
 func Check(b api.TdBeach, s api.TdShip) (part, at int, e api.Errno) {
@@ -18,10 +21,10 @@ func Check(b api.TdBeach, s api.TdShip) (part, at int, e api.Errno) {
 
 // beachFault returns the error of a beach, but for its tides.
 func beachFault(b api.TdBeach) api.Errno {
-	if !spansWithin(1, api.MaxTdSlope, b.Slope) || !spansWithin(-api.MaxTdFar, api.MaxTdFar, b.Marks) || !within(0, api.MaxTdBite, b.Bite) {
+	if !limits.SpansWithin(1, api.MaxTdSlope, b.Slope) || !limits.SpansWithin(-api.MaxTdFar, api.MaxTdFar, b.Marks) || !limits.Within(0, api.MaxTdBite, b.Bite) {
 		return api.ErrRange
 	}
-	if turned(b.Slope, b.Marks) {
+	if limits.Turned(b.Slope, b.Marks) {
 		return api.ErrArg
 	}
 	return api.OK
@@ -29,15 +32,15 @@ func beachFault(b api.TdBeach) api.Errno {
 
 // tidesFault returns the first tide with an error, and this error.
 func tidesFault(tides []api.TdTide) (at int, e api.Errno) {
-	if !within(1, api.MaxTdTides, len(tides)) {
+	if !limits.Within(1, api.MaxTdTides, len(tides)) {
 		return 0, api.ErrLong
 	}
 	day := 0
 	for i, t := range tides {
-		if !within(0, api.MaxDay, t.Day) || !spansWithin(0, api.MaxTdHeight, t.Height) || !spansWithin(-api.MaxTdWind, api.MaxTdWind, t.Wind) {
+		if !limits.Within(0, api.MaxDay, t.Day) || !limits.SpansWithin(0, api.MaxTdHeight, t.Height) || !limits.SpansWithin(-api.MaxTdWind, api.MaxTdWind, t.Wind) {
 			return i, api.ErrRange
 		}
-		if turned(t.Height, t.Wind) || t.Day < day {
+		if limits.Turned(t.Height, t.Wind) || t.Day < day {
 			return i, api.ErrArg
 		}
 		day = t.Day
@@ -46,34 +49,11 @@ func tidesFault(tides []api.TdTide) (at int, e api.Errno) {
 }
 
 func shipFault(s api.TdShip) api.Errno {
-	if !spansWithin(0, api.MaxTdDraft, s.Draft) || !within(0, api.MaxTdSink, s.Sink) {
+	if !limits.SpansWithin(0, api.MaxTdDraft, s.Draft) || !limits.Within(0, api.MaxTdSink, s.Sink) {
 		return api.ErrRange
 	}
-	if turned(s.Draft) {
+	if limits.Turned(s.Draft) {
 		return api.ErrArg
 	}
 	return api.OK
-}
-
-// within reports whether a number is from lo to hi.
-func within(lo, hi, n int) bool { return lo <= n && n <= hi }
-
-// spansWithin reports whether both ends of all spans are from lo to hi.
-func spansWithin(lo, hi int, spans ...api.Span) bool {
-	for _, s := range spans {
-		if !within(lo, hi, s.Lo) || !within(lo, hi, s.Hi) {
-			return false
-		}
-	}
-	return true
-}
-
-// turned reports whether some span has its Lo above its Hi.
-func turned(spans ...api.Span) bool {
-	for _, s := range spans {
-		if s.Lo > s.Hi {
-			return true
-		}
-	}
-	return false
 }

@@ -1,6 +1,9 @@
 package tide
 
-import "orlop/api"
+import (
+	"orlop/api"
+	"orlop/limits"
+)
 
 // shore is a beach that is looked at, and the ship that is run ashore there.
 type shore struct {
@@ -19,10 +22,10 @@ func look(b api.TdBeach, s api.TdShip, run api.TdPull) (shore, api.Errno) {
 
 // fault returns the error of a run, or of a pull alone.
 func (l shore) fault(p api.TdPull) api.Errno {
-	if !within(0, len(l.Tides)-1, p.Tide) {
+	if !limits.Within(0, len(l.Tides)-1, p.Tide) {
 		return api.ErrNone
 	}
-	if !within(0, api.MaxTdBallast, p.Ballast) {
+	if !limits.Within(0, api.MaxTdBallast, p.Ballast) {
 		return api.ErrRange
 	}
 	return api.OK
