@@ -5,20 +5,21 @@ import (
 	"slices"
 
 	"orlop/api"
+	"orlop/bitset"
 )
 
 // state is which tanks are free, and which have a blower. At first it is the zero value.
-type state struct{ free, blowers set }
+type state struct{ free, blowers bitset.Set }
 
 // after returns the state to which a step leads that is possible, after the gas has spread.
 func (n net) after(s state, step api.VnStep) state {
 	if step.Off {
-		s.blowers &^= setOf(step.Tank)
+		s.blowers &^= bitset.Of(step.Tank)
 	} else {
-		s.blowers |= setOf(step.Tank)
-		s.free |= setOf(step.Tank)
+		s.blowers |= bitset.Of(step.Tank)
+		s.free |= bitset.Of(step.Tank)
 	}
-	all := set(1)<<len(n.Tanks) - 1
+	all := bitset.Below(len(n.Tanks))
 	s.free = all &^ n.flood(all&^s.free, s.blowers)
 	return s
 }
@@ -27,8 +28,8 @@ func (n net) after(s state, step api.VnStep) state {
 func (n net) steps(s state, blowers int) iter.Seq2[api.VnStep, state] {
 	return func(yield func(api.VnStep, state) bool) {
 		for tank := range n.Tanks {
-			step := api.VnStep{Tank: tank, Off: s.blowers.has(tank)}
-			if !step.Off && (n.kept.has(tank) || s.blowers.count() >= blowers) {
+			step := api.VnStep{Tank: tank, Off: s.blowers.Has(tank)}
+			if !step.Off && (n.kept.Has(tank) || s.blowers.Count() >= blowers) {
 				continue
 			}
 			if !yield(step, n.after(s, step)) {

@@ -4,24 +4,25 @@ import (
 	"slices"
 
 	"orlop/api"
+	"orlop/bitset"
 )
 
 // trail is a way of gas that has not come to its end: from which tanks it can go on, and which ones it can no longer reach. At its beginning it can go on from all Kept tanks; afterwards from just one.
-type trail struct{ heads, reached set }
+type trail struct{ heads, reached bitset.Set }
 
 // start returns the trail without pipes.
 func (n net) start() trail { return trail{heads: n.kept, reached: n.kept} }
 
 // to returns the trail that has reached a further tank.
 func (t trail) to(tank int) trail {
-	return trail{heads: setOf(tank), reached: t.reached | setOf(tank)}
+	return trail{heads: bitset.Of(tank), reached: t.reached | bitset.Of(tank)}
 }
 
 // next returns from which tank to which one a trail can go through a pipe, if it can.
 func (n net) next(t trail, pipe int) (from, to int, can bool) {
 	p := n.Pipes[pipe]
 	for _, ends := range [2][2]int{{p.From, p.To}, {p.To, p.From}} {
-		if t.heads.has(ends[0]) && !t.reached.has(ends[1]) {
+		if t.heads.Has(ends[0]) && !t.reached.Has(ends[1]) {
 			return ends[0], ends[1], true
 		}
 	}
@@ -48,7 +49,7 @@ func (n net) wayOf(length int, goes func(pipe, from int) bool) []int {
 			from, to, can := n.next(t, i)
 			last := len(before) == length-1
 			switch {
-			case !can || n.wanted.has(to) != last || !goes(i, from):
+			case !can || n.wanted.Has(to) != last || !goes(i, from):
 				continue
 			case last:
 				way = append(slices.Clone(before), i)
@@ -65,7 +66,7 @@ func (n net) wayOf(length int, goes func(pipe, from int) bool) []int {
 
 // openWay returns the open way of gas with the fewest pipes.
 func (n net) openWay() []int {
-	return n.way(func(pipe, _ int) bool { return !n.shut.has(pipe) })
+	return n.way(func(pipe, _ int) bool { return !n.shut.Has(pipe) })
 }
 
 // isWay reports whether any numbers are the pipes of a way of gas.
@@ -76,7 +77,7 @@ func (n net) isWay(pipes []int) bool {
 			return false
 		}
 		_, to, can := n.next(t, pipe)
-		if !can || n.wanted.has(to) != (i == len(pipes)-1) {
+		if !can || n.wanted.Has(to) != (i == len(pipes)-1) {
 			return false
 		}
 		t = t.to(to)
@@ -114,7 +115,7 @@ func (n net) ways() [][]int {
 	var f flow
 	// A further way may go through a pipe against the flow, which ends there: so earlier ways never prevent that there are as many as there can be.
 	room := func(pipe, from int) bool {
-		return !n.shut.has(pipe) && (n.Pipes[pipe].Welded || n.along(f, pipe, from) < 1)
+		return !n.shut.Has(pipe) && (n.Pipes[pipe].Welded || n.along(f, pipe, from) < 1)
 	}
 	for w := n.way(room); w != nil; w = n.way(room) {
 		n.send(&f, w, 1)
@@ -132,9 +133,9 @@ func (n net) ways() [][]int {
 func (n net) blanks() []int {
 	var list []int
 	left := len(n.ways())
-	for _, i := range n.flanged().list() {
+	for _, i := range n.flanged().List() {
 		// As many ways as there can be need as many blanks: a pipe is one of the fewest just if there are fewer ways without it.
-		without := n.blanked(setOf(i))
+		without := n.blanked(bitset.Of(i))
 		if fewer := len(without.ways()); fewer < left {
 			list = append(list, i)
 			n, left = without, fewer
