@@ -46,7 +46,7 @@ func partFault(l []api.BlPart, at int) api.Errno {
 	if e := nameFault(l, at, func(x api.BlPart) string { return x.Name }); e != api.OK {
 		return e
 	}
-	return spanFault(l[at].Weight, api.MaxBlWeight)
+	return limits.SpanFault(0, api.MaxBlWeight, l[at].Weight)
 }
 
 // nameFault returns the error of the name of the element of a list that has an index.
@@ -57,17 +57,6 @@ func nameFault[T any](l []T, at int, name func(T) string) api.Errno {
 	}
 	if slices.ContainsFunc(l[:at], func(x T) bool { return name(x) == own }) {
 		return api.ErrTwice
-	}
-	return api.OK
-}
-
-// spanFault returns the error of a span that is to be from 0 to a number.
-func spanFault(s api.Span, most int) api.Errno {
-	if !limits.SpansWithin(0, most, s) {
-		return api.ErrRange
-	}
-	if limits.Turned(s) {
-		return api.ErrArg
 	}
 	return api.OK
 }
@@ -110,7 +99,7 @@ func weighingsFault(h api.BlHull, l []api.BlWeighed) api.Errno {
 		if slices.ContainsFunc(l[:i], func(y api.BlWeighed) bool { return cross(x, y) }) {
 			return api.ErrForm
 		}
-		if e := spanFault(x.Shown, api.MaxBlShown); e != api.OK {
+		if e := limits.SpanFault(0, api.MaxBlShown, x.Shown); e != api.OK {
 			return e
 		}
 	}

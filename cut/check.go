@@ -78,21 +78,6 @@ func checkTanks(t api.CtTask) {
 		deny(ofTanks, 0, api.ErrLong)
 	}
 	for i, list := range t.Tanks {
-		deny(ofTanks, i, listFault(list, len(t.Net.Tanks)))
+		deny(ofTanks, i, limits.IndicesFault(list, len(t.Net.Tanks)))
 	}
-}
-
-// listFault returns the error of the first number with one, of a list of so many tanks, ascending.
-func listFault(list []int, tanks int) api.Errno {
-	before := -1
-	for _, tank := range list {
-		if !limits.Within(0, tanks-1, tank) {
-			return api.ErrNone
-		}
-		if tank <= before {
-			return api.ErrArg
-		}
-		before = tank
-	}
-	return api.OK
 }

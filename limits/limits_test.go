@@ -56,3 +56,46 @@ func TestSpans(t *testing.T) {
 		}
 	}
 }
+
+func TestSpanFault(t *testing.T) {
+	for i, c := range []struct {
+		span api.Span
+		e    api.Errno
+	}{
+		{api.Span{Lo: -3, Hi: 5}, api.OK},
+		{api.Span{Lo: 2, Hi: 2}, api.OK},
+		{api.Span{Lo: -4, Hi: 5}, api.ErrRange},
+		{api.Span{Lo: -3, Hi: 6}, api.ErrRange},
+		{api.Span{Lo: greatest, Hi: least}, api.ErrRange},
+		{api.Span{Lo: 6, Hi: 5}, api.ErrRange},
+		{api.Span{Lo: 5, Hi: -3}, api.ErrArg},
+	} {
+		if e := limits.SpanFault(-3, 5, c.span); e != c.e {
+			t.Errorf("%d: SpanFault = %d", i, e)
+		}
+	}
+}
+
+func TestIndicesFault(t *testing.T) {
+	for i, c := range []struct {
+		list   []int
+		things int
+		e      api.Errno
+	}{
+		{nil, 0, api.OK},
+		{[]int{0}, 0, api.ErrNone},
+		{[]int{0, 1, 4}, 5, api.OK},
+		{[]int{0, 1, 5}, 5, api.ErrNone},
+		{[]int{-1}, 5, api.ErrNone},
+		{[]int{least}, 5, api.ErrNone},
+		{[]int{greatest}, 5, api.ErrNone},
+		{[]int{2, 2}, 5, api.ErrArg},
+		{[]int{2, 1, 5}, 5, api.ErrArg},
+		{[]int{2, 5, 1}, 5, api.ErrNone},
+		{[]int{2, -1}, 5, api.ErrNone},
+	} {
+		if e := limits.IndicesFault(c.list, c.things); e != c.e {
+			t.Errorf("%d: IndicesFault = %d", i, e)
+		}
+	}
+}
