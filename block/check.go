@@ -5,8 +5,8 @@ import (
 
 	"orlop/api"
 	"orlop/bitset"
-	"orlop/hull"
 	"orlop/limits"
+	"orlop/names"
 )
 
 // Check returns the part, the index in it and the error of a hull. The part is 1 for how many parts and joints there are, the sand and the winch, 2 for the parts, and 3 for the joints.
@@ -43,22 +43,10 @@ func frameFault(h api.BlHull) api.Errno {
 
 // partFault returns the error of the part of a list that has an index.
 func partFault(l []api.BlPart, at int) api.Errno {
-	if e := nameFault(l, at, func(x api.BlPart) string { return x.Name }); e != api.OK {
+	if e := names.Fault(l, at, func(x api.BlPart) string { return x.Name }); e != api.OK {
 		return e
 	}
 	return limits.SpanFault(0, api.MaxBlWeight, l[at].Weight)
-}
-
-// nameFault returns the error of the name of the element of a list that has an index.
-func nameFault[T any](l []T, at int, name func(T) string) api.Errno {
-	own := name(l[at])
-	if !hull.Name(own) {
-		return api.ErrForm
-	}
-	if slices.ContainsFunc(l[:at], func(x T) bool { return name(x) == own }) {
-		return api.ErrTwice
-	}
-	return api.OK
 }
 
 // jointFault returns the error of the joint of a hull that has an index.

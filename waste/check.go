@@ -1,11 +1,9 @@
 package waste
 
 import (
-	"slices"
-
 	"orlop/api"
-	"orlop/hull"
 	"orlop/limits"
+	"orlop/names"
 )
 
 // lost is the Copy of a paper whose other copy is lost.
@@ -52,14 +50,8 @@ func sized(y api.WaYard) bool {
 }
 
 // nameFault returns the error of the name of a list that has an index.
-func nameFault(names []string, at int) api.Errno {
-	if !hull.Name(names[at]) {
-		return api.ErrForm
-	}
-	if slices.Contains(names[:at], names[at]) {
-		return api.ErrTwice
-	}
-	return api.OK
+func nameFault(list []string, at int) api.Errno {
+	return names.Fault(list, at, func(name string) string { return name })
 }
 
 // countFault returns the error of the count of a list that has an index.
