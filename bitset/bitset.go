@@ -44,3 +44,26 @@ func (s Set) All() iter.Seq[int] {
 
 // List returns the indices of the set, ascending.
 func (s Set) List() []int { return slices.Collect(s.All()) }
+
+// Lists yields all sets of indices below a number, which is at most 16: smaller ones before larger ones, and those of one size as their lists are compared, number by number.
+func Lists(n int) iter.Seq[Set] {
+	return func(yield func(Set) bool) {
+		var add func(list Set, from, more int) bool
+		add = func(list Set, from, more int) bool {
+			if more == 0 {
+				return yield(list)
+			}
+			for i := from; i < n; i++ {
+				if !add(list|Of(i), i+1, more-1) {
+					return false
+				}
+			}
+			return true
+		}
+		for size := range n + 1 {
+			if !add(0, 0, size) {
+				return
+			}
+		}
+	}
+}

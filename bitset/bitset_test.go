@@ -54,3 +54,39 @@ func TestAllEnds(t *testing.T) {
 		t.Errorf("All yields %v up to 5", met)
 	}
 }
+
+func TestLists(t *testing.T) {
+	for n := range 17 {
+		var all []bitset.Set
+		for s := range bitset.Lists(n) {
+			if s&^bitset.Below(n) != 0 {
+				t.Errorf("Lists of %d yields %v", n, s.List())
+			}
+			all = append(all, s)
+		}
+		if len(all) != 1<<n {
+			t.Errorf("Lists of %d yields %d sets", n, len(all))
+		}
+		for i := 1; i < len(all); i++ {
+			a, b := all[i-1], all[i]
+			if a.Count() > b.Count() || a.Count() == b.Count() && slices.Compare(a.List(), b.List()) >= 0 {
+				t.Errorf("Lists of %d yields %v before %v", n, a.List(), b.List())
+			}
+		}
+	}
+}
+
+func TestListsEnds(t *testing.T) {
+	for _, last := range []bitset.Set{0, bitset.Of(2), bitset.Of(0, 3), bitset.Of(1, 2), bitset.Below(4)} {
+		var met []bitset.Set
+		for s := range bitset.Lists(4) {
+			met = append(met, s)
+			if s == last {
+				break
+			}
+		}
+		if at := slices.Index(met, last); at < 0 || at != len(met)-1 {
+			t.Errorf("Lists yields %v up to %v", met, last.List())
+		}
+	}
+}

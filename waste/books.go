@@ -124,7 +124,7 @@ func (b books) leastSets() iter.Seq[bitset.Set] {
 	return func(yield func(bitset.Set) bool) {
 		fewest := len(b.Papers)
 	search:
-		for list := range lists(len(b.Papers)) {
+		for list := range bitset.Lists(len(b.Papers)) {
 			switch {
 			case list.Count() > fewest:
 				break search
@@ -134,29 +134,6 @@ func (b books) leastSets() iter.Seq[bitset.Set] {
 				break search
 			}
 			fewest = list.Count()
-		}
-	}
-}
-
-// lists yields all lists of papers: shorter ones before longer ones, and those of one length as they are compared.
-func lists(papers int) iter.Seq[bitset.Set] {
-	return func(yield func(bitset.Set) bool) {
-		var add func(list bitset.Set, from, more int) bool
-		add = func(list bitset.Set, from, more int) bool {
-			if more == 0 {
-				return yield(list)
-			}
-			for paper := from; paper < papers; paper++ {
-				if !add(list|bitset.Of(paper), paper+1, more-1) {
-					return false
-				}
-			}
-			return true
-		}
-		for length := range papers + 1 {
-			if !add(0, 0, length) {
-				return
-			}
 		}
 	}
 }
